@@ -1,0 +1,1 @@
+"""Seats on a train."""
