@@ -17,7 +17,7 @@ class UnknownCall(ValueError):
 
 def width_of(call):
     # Without its width, nobody can tell where the call behind it begins.
-    if call >= len(WIDTHS):
+    if call > DROP:
         raise UnknownCall(f"there is no call {call}")
     return WIDTHS[call]
 
