@@ -10,7 +10,10 @@ DONE = 0
 OUT_OF_BOUNDS = -1
 NOT_THERE = -2
 NO_NEW_PAIR = -3
+NO_PLAN = -3
 NO_ROOM_FOR_RIDERS = -5
+TOO_FEW_SEATS = -6
+NO_SEAT_FREE = -7
 
 
 class Rider:
@@ -71,3 +74,12 @@ class Train:
             return NOT_THERE
         self.riders.pop(i)
         return DONE
+
+    def aboard(self, leg):
+        return [i for i, one in enumerate(self.riders) if one.start <= leg and leg < one.to]
+
+    def how_full(self):
+        return [len(self.aboard(leg)) for leg in range(self.legs)]
+
+    def has_too_few_seats(self):
+        return any([many > self.seats for many in self.how_full()])
